@@ -1,0 +1,1 @@
+"""Lateplans: how many times as long one plan can take as another one."""

@@ -1,0 +1,115 @@
+"""Plain, slow ways to say what the document says, and Plans to try them on."""
+
+import itertools
+import random
+
+from lateplans.plans import Plan
+
+LETTERS = "abcdefghij"
+
+
+def closure(pairs):
+    """All pairs (one, other) such that a chain of the pairs leads from one to other."""
+    found = set(pairs)
+    while True:
+        more = {(one, last) for one, mid in found for first, last in found if mid == first} - found
+        if not more:
+            return found
+        found |= more
+
+
+def goes_round(pairs):
+    return any(one == other for one, other in closure(pairs))
+
+
+def first_bad(works, pairs):
+    """The place of the first pair that cannot stand in a Plan; None if all can."""
+    for place, (one, other) in enumerate(pairs):
+        if one not in works or other not in works or one == other or goes_round(pairs[:place + 1]):
+            return place
+    return None
+
+
+def subsets(items):
+    for size in range(len(items) + 1):
+        yield from itertools.combinations(items, size)
+
+
+def rows(plan):
+    """All ROWS."""
+    waits = closure(plan.pairs)
+    return [
+        some for some in subsets(plan.works)
+        if all((x, y) in waits or (y, x) in waits for x, y in itertools.combinations(some, 2))
+    ]
+
+
+def spans(plan, durations, delays=()):
+    """For each work when it begins and is done; a work in delays begins at the moment that stands there."""
+    lasts, delays, found = dict(zip(plan.works, durations)), dict(delays), {}
+
+    def span(name):
+        if name not in found:
+            start = max([span(one)[1] for one, other in plan.pairs if other == name] + [0])
+            start = max(start, delays.get(name, 0))
+            found[name] = (start, start + lasts[name])
+        return found[name]
+
+    return {name: span(name) for name in plan.works}
+
+
+def time_by_rows(plan, durations):
+    lasts = dict(zip(plan.works, durations))
+    return max(sum(lasts[name] for name in row) for row in rows(plan))
+
+
+def longest_rows(plan, durations):
+    lasts, time = dict(zip(plan.works, durations)), time_by_rows(plan, durations)
+    return [row for row in rows(plan) if sum(lasts[name] for name in row) == time]
+
+
+def every_plan(many):
+    """All Plans of the first so many letters."""
+    works = tuple(LETTERS[:many])
+    offers = list(itertools.permutations(works, 2))
+    return [Plan(works, pairs) for pairs in subsets(offers) if not goes_round(pairs)]
+
+
+def some_plans(many, sizes=(5, 6, 7, 8, 9, 10), seed=7):
+    """So many Plans of each of these sizes, always the same ones."""
+    chance = random.Random(seed)
+    plans = []
+    for size in sizes:
+        for _ in range(many):
+            works = list(LETTERS[:size])
+            order = chance.sample(works, size)
+            offers = [(order[i], order[k]) for k in range(size) for i in range(k)]
+            pairs = [pair for pair in offers if chance.random() < chance.choice((0.1, 0.3, 0.6))]
+            plans.append(Plan(works, chance.sample(pairs, len(pairs))))
+    return plans
+
+
+def some_durations(plan, many, seed=11):
+    """So many DURATIONS for the Plan, always the same ones, with zeros and equal ones among them."""
+    chance = random.Random(seed)
+    found = [(0,) * len(plan), (1,) * len(plan), (10 ** 29,) * len(plan)]
+    for _ in range(many):
+        top = chance.choice((1, 2, 5, 10 ** 29))
+        found.append(tuple(chance.randint(0, top) for _ in plan.works))
+    return found
+
+
+def nested(times, core, kind=tuple):
+    """The core within so many tuples or lists."""
+    for _ in range(times):
+        core = kind([core])
+    return core
+
+
+THINGS = [
+    None, True, False, 0, 1, -1, 10 ** 50, "", "a", "ab", "a b", "A", (), [], (None,), (True,), (False,),
+    (True, True), [0, 0], ["a"], ("a", None), ("a", 1), ("a", True), (("a",),), (["a"],), ("a", ["b"]),
+    ("a", ("b",)), ((), ()), ([],), ("",), ("a", "a"), ("b", "a"), ("zz",), (-1, 0), (0, "0"), (1, None),
+    nested(12, "a"), nested(12, 0), nested(12, 0, list), nested(11, ("a", "b")), ("a",) * 500, (0,) * 500,
+    tuple(range(300)), "a" * 5000,
+]

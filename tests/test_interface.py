@@ -1,0 +1,59 @@
+"""Point [22]: each name stands where the document lists it, with its parameters."""
+
+import importlib
+import inspect
+import unittest
+
+FUNCTIONS = {
+    "plans": [
+        "all_waits(plan)", "waits_for(plan, one, other)", "in_row(plan, one, other)", "row_pairs(plan)",
+        "needless_pairs(plan)", "plain_plan(plan)", "with_pair(plan, one, other)",
+        "without_pair(plan, one, other)", "turned(plan)", "only(plan, some)", "beside(one, other)",
+        "behind(one, other)",
+    ],
+    "times": [
+        "is_durations(plan, thing)", "time_of(plan, durations)", "ends(plan, durations)",
+        "begins(plan, durations)", "latest_begins(plan, durations)", "slacks(plan, durations)",
+        "critical(plan, durations)", "longest_row(plan, durations)",
+        "is_longest_row(plan, durations, thing)", "how_many_longest(plan, durations)",
+        "at_work(plan, durations, moment)", "most_at_once(plan, durations)",
+    ],
+}
+CLASSES = {"plans": {"Plan": ["__init__(self, works, pairs=())", "of(text)", "__len__(self)"]}}
+METHODS = {"Plan": ["__len__", "__contains__", "__eq__"]}
+PROPERTIES = {"Plan": ["works", "pairs", "text"]}
+STATIC = {"Plan": ["of"]}
+
+
+class Interface(unittest.TestCase):
+    def test_functions(self):
+        for file, listed in FUNCTIONS.items():
+            module = importlib.import_module("lateplans." + file)
+            for line in listed:
+                name = line[:line.index("(")]
+                found = vars(module)[name]
+                self.assertTrue(inspect.isfunction(found), name)
+                self.assertEqual(found.__module__, module.__name__)
+                self.assertEqual(name + str(inspect.signature(found)), line)
+
+    def test_classes(self):
+        for file, listed in CLASSES.items():
+            module = importlib.import_module("lateplans." + file)
+            for word, lines in listed.items():
+                kind = vars(module)[word]
+                self.assertEqual(kind.__module__, module.__name__)
+                for line in lines:
+                    name = line[:line.index("(")]
+                    self.assertIn(name, vars(kind))
+                    self.assertEqual(name + str(inspect.signature(getattr(kind, name))), line)
+                for name in METHODS[word]:
+                    self.assertTrue(inspect.isfunction(vars(kind)[name]), name)
+                for name in STATIC[word]:
+                    self.assertIsInstance(vars(kind)[name], staticmethod)
+                for name in PROPERTIES[word]:
+                    self.assertIsInstance(vars(kind)[name], property)
+                    self.assertIsNone(vars(kind)[name].fset)
+
+
+if __name__ == "__main__":
+    unittest.main()
