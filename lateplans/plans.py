@@ -1,6 +1,7 @@
 """Plans: works that wait for one another."""
 
-from lateplans.errors import BadPair, BadText, Known, NoWork
+from lateplans.bits import bits_of, both_ways, later_bits, places
+from lateplans.errors import BadPair, BadText, Known, NoWork, OtherWorks
 from lateplans.names import ascends, is_name
 from lateplans.waits import first_wrong, waiting
 
@@ -49,6 +50,16 @@ class Plan:
         head = " ".join(self._works) if self._works else "-"
         return "; ".join([head] + [f"{one} {other}" for one, other in self._pairs])
 
+    @property
+    def later(self):
+        """For each work the bits of those that wait for it, through others, too."""
+        return later_bits(self._works, self._pairs)
+
+    @property
+    def mates(self):
+        """For each work the bits of those in a row with it."""
+        return both_ways(self.later)
+
     def __len__(self):
         return len(self._works)
 
@@ -72,6 +83,18 @@ def need_works(plan, names):
     for name in names:
         if name not in plan.works:
             raise NoWork(name)
+
+
+def need_same_works(one, other):
+    """Raises OtherWorks() if the Plans have unlike WORKS."""
+    if one.works != other.works:
+        raise OtherWorks()
+
+
+def need_as_many(plan, numbers):
+    """Raises OtherWorks() if these are not as many as the works."""
+    if len(numbers) != len(plan.works):
+        raise OtherWorks()
 
 
 def all_waits(plan):
@@ -98,8 +121,14 @@ def row_pairs(plan):
 
 def all_in_row(plan, some):
     """Whether each two of these works are in a row."""
-    rows = row_pairs(plan)
-    return all([(one, other) in rows for one in some for other in some if one < other])
+    bits, mates = bits_of(plan.works, some), plan.mates
+    return all([bits & ~mates[place] == 1 << place for place in places(bits)])
+
+
+def all_side_by_side(plan, some):
+    """Whether each two of these works are side by side."""
+    bits, mates = bits_of(plan.works, some), plan.mates
+    return all([bits & mates[place] == 0 for place in places(bits)])
 
 
 def needless_pairs(plan):

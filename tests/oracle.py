@@ -113,3 +113,103 @@ THINGS = [
     nested(12, "a"), nested(12, 0), nested(12, 0, list), nested(11, ("a", "b")), ("a",) * 500, (0,) * 500,
     tuple(range(300)), "a" * 5000,
 ]
+
+
+def mates(plan):
+    """All pairs of works in a row, both ways about."""
+    waits = closure(plan.pairs)
+    return waits | {(other, one) for one, other in waits}
+
+
+def lots(plan):
+    """All LOTS."""
+    pairs = mates(plan)
+    return [
+        some for some in subsets(plan.works)
+        if not any((x, y) in pairs for x, y in itertools.combinations(some, 2))
+    ]
+
+
+def great(sets):
+    """Those of the sets that lie in no other one, ascending."""
+    return sorted(some for some in sets if not any(set(some) < set(more) for more in sets))
+
+
+def partings_of(some):
+    """All ways to part these into sets none of which is ()."""
+    if not some:
+        return [()]
+    found = []
+    for parting in partings_of(some[1:]):
+        found.append(tuple(sorted(((some[0],),) + parting)))
+        for place, part in enumerate(parting):
+            found.append(tuple(sorted(parting[:place] + ((some[0],) + part,) + parting[place + 1:])))
+    return found
+
+
+def bits_durations(plan):
+    """All DURATIONS of 0 and 1."""
+    return list(itertools.product((0, 1), repeat=len(plan)))
+
+
+def two_plans(many, sizes=(5, 6, 7, 8, 9, 10), seed=5):
+    """So many pairs of Plans of the same works, of each of these sizes."""
+    plans, more = some_plans(many, sizes, seed), some_plans(many, sizes, seed + 100)
+    return list(zip(plans, more)) + [(plan, plan) for plan in plans[::many]]
+
+
+def spoiled(value):
+    """This value, and things that are much like it."""
+    found = [value, None, [value], (value,)]
+    if isinstance(value, tuple):
+        found += [list(value), value + (None,), value[1:], value[:-1], value[::-1], value + value[-1:], value[:1] + value]
+        for place, item in enumerate(value):
+            found += [value[:place] + (other,) + value[place + 1:] for other in spoiled(item)]
+    elif isinstance(value, int):
+        found += [value + 1, value - 1, -value, bool(value), str(value), 10 ** 40]
+    else:
+        found += [value + "a", value.upper(), "", "zz", 0, True]
+    return found
+
+
+def alike_waits(plan):
+    """The waits of all Plans in which the same works are in a row, as sets of pairs."""
+    pairs, orders = mates(plan), []
+    for order in itertools.permutations(plan.works):
+        waits = {(x, y) for x, y in pairs if order.index(x) < order.index(y)}
+        if waits == closure(waits) and waits not in orders:
+            orders.append(waits)
+    return orders
+
+
+def count_alike(plan):
+    """How many there are, by directing pair after pair."""
+    pairs = mates(plan)
+
+    def settled(waits, left):
+        """The waits with all that follow from these; None if they are against one another."""
+        waits, left = set(waits), list(left)
+        while left:
+            x, y = left.pop()
+            if (y, x) in waits:
+                return None
+            if (x, y) not in waits:
+                waits.add((x, y))
+                for z in plan.works:
+                    if z not in (x, y):
+                        if (y, z) in waits:
+                            left.append((x, z))
+                        if (z, x) in waits:
+                            left.append((z, y))
+                if any(wait not in pairs for wait in left):
+                    return None
+        return waits
+
+    def count(waits):
+        free = [pair for pair in sorted(pairs) if pair not in waits and pair[::-1] not in waits]
+        if not free:
+            return 1
+        ways = [settled(waits, [pair]) for pair in (free[0], free[0][::-1])]
+        return sum(count(way) for way in ways if way is not None)
+
+    return count(set())

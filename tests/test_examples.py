@@ -8,7 +8,7 @@ import unittest
 import lateplans
 
 FOLDER = pathlib.Path(__file__).parent / "examples"
-POINTS = ("point_04", "point_05")
+POINTS = ("point_04", "point_05", "point_06", "point_07", "point_08", "point_09")
 
 
 def all_names():

@@ -18,6 +18,26 @@ FUNCTIONS = {
         "is_longest_row(plan, durations, thing)", "how_many_longest(plan, durations)",
         "at_work(plan, durations, moment)", "most_at_once(plan, durations)",
     ],
+    "rows": [
+        "is_row(plan, some)", "is_lot(plan, some)", "great_rows(plan)", "great_lots(plan)", "longest(plan)",
+        "width(plan)", "heights(plan)", "rows_over(plan, some)", "lots_over(plan, some)",
+        "is_parting_in_rows(plan, some, thing)", "is_parting_in_lots(plan, some, thing)",
+    ],
+    "factor": [
+        "row_and_side(one, other)", "factor(one, other)", "lot_against(one, other, number)",
+        "is_lot_against(one, other, number, thing)", "partings(one, other, number)",
+        "is_partings(one, other, number, thing)", "durations_against(one, other, number)",
+        "is_durations_against(one, other, number, thing)", "as_long(one, other, durations)",
+    ],
+    "alike": [
+        "longer_at(one, other)", "is_longer_at(one, other, thing)", "never_longer(one, other)",
+        "alike(one, other)", "forced(plan, one, other)", "how_many_alike(plan)", "all_alike(plan)",
+    ],
+    "bounded": [
+        "is_limits(plan, thing)", "is_within(plan, limits, thing)", "durations_late(one, other, limits)",
+        "most_late(one, other, limits)", "least_late(one, other, limits)", "never_late(one, other, limits)",
+        "is_durations_late(one, other, limits, thing)", "durations_apart(one, other, limits, number)",
+    ],
 }
 CLASSES = {"plans": {"Plan": ["__init__(self, works, pairs=())", "of(text)", "__len__(self)"]}}
 METHODS = {"Plan": ["__len__", "__contains__", "__eq__"]}
