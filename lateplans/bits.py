@@ -42,6 +42,11 @@ def others(mates):
     return tuple([everyone(mates) & ~bits & ~(1 << place) for place, bits in enumerate(mates)])
 
 
+def without(mates, more):
+    """For each place those that go with it by mates and not by more."""
+    return tuple([bits & ~away for bits, away in zip(mates, more)])
+
+
 def later_bits(works, pairs):
     """For each work the bits of those that wait for it, through others, too."""
     at = {name: place for place, name in enumerate(works)}
@@ -53,6 +58,16 @@ def later_bits(works, pairs):
             if bits >> between & 1:
                 found[place] = bits | found[between]
     return tuple(found)
+
+
+def later_with(later, one, other):
+    """What later_bits tells if the place other waits for one, too; None if that closes a round."""
+    if one == other or later[other] >> one & 1:
+        return None
+    more = later[other] | 1 << other
+    return tuple([
+        bits | more if place == one or bits >> one & 1 else bits for place, bits in enumerate(later)
+    ])
 
 
 def both_ways(later):
@@ -86,3 +101,22 @@ def great_sets(mates, inside):
 def greatest_set(mates, inside):
     """A set of places inside, each two of which go together, with as many as can be."""
     return max(great_sets(mates, inside), key=how_many)
+
+
+def has_set(mates, inside, many):
+    """Whether so many places inside go together, each with each."""
+    offers = places(inside)
+    if many > len(offers):
+        return False
+    if many <= 0:
+        return True
+    for place in offers:
+        inside = inside & ~(1 << place)
+        if has_set(mates, inside & mates[place], many - 1):
+            return True
+    return False
+
+
+def go_together(mates, bits):
+    """Whether each two of these places go together."""
+    return all([bits & ~mates[place] == 1 << place for place in places(bits)])

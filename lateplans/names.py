@@ -19,3 +19,10 @@ def is_number(thing):
 def is_set_of(names, thing):
     """Whether thing is a set of some of the names, which ascend."""
     return isinstance(thing, tuple) and thing == tuple([name for name in names if name in thing])
+
+
+def tupled(thing):
+    """The same with tuples in the places of all lists."""
+    if isinstance(thing, (list, tuple)):
+        return tuple([tupled(item) for item in thing])
+    return thing

@@ -87,7 +87,7 @@ def all_ways(later, mates, inside):
     kind, parts = parted(mates, inside)
     ways = [()]
     if kind == IN_ROW:
-        ways = [_one_behind_another(order) for order in _orders(parts)]
+        ways = [_one_behind_another(order) for order in orders(parts)]
     if kind == TANGLED:
         way = _between(later, parts)
         ways = [way, tuple([(other, one) for one, other in way])]
@@ -97,7 +97,7 @@ def all_ways(later, mates, inside):
     return ways
 
 
-def _orders(items):
+def orders(items):
     """All orders of the items."""
     found = [()]
     for item in items:

@@ -1,6 +1,6 @@
 """Plans: works that wait for one another."""
 
-from lateplans.bits import bits_of, both_ways, later_bits, places
+from lateplans.bits import bits_of, both_ways, go_together, later_bits, others
 from lateplans.errors import BadPair, BadText, Known, NoWork, OtherWorks
 from lateplans.names import ascends, is_name
 from lateplans.waits import first_wrong, waiting
@@ -121,14 +121,12 @@ def row_pairs(plan):
 
 def all_in_row(plan, some):
     """Whether each two of these works are in a row."""
-    bits, mates = bits_of(plan.works, some), plan.mates
-    return all([bits & ~mates[place] == 1 << place for place in places(bits)])
+    return go_together(plan.mates, bits_of(plan.works, some))
 
 
 def all_side_by_side(plan, some):
     """Whether each two of these works are side by side."""
-    bits, mates = bits_of(plan.works, some), plan.mates
-    return all([bits & mates[place] == 0 for place in places(bits)])
+    return go_together(others(plan.mates), bits_of(plan.works, some))
 
 
 def needless_pairs(plan):

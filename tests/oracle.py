@@ -1,5 +1,6 @@
 """Plain, slow ways to say what the document says, and Plans to try them on."""
 
+import functools
 import itertools
 import random
 
@@ -37,9 +38,14 @@ def subsets(items):
 
 def rows(plan):
     """All ROWS."""
-    waits = closure(plan.pairs)
+    return list(rows_by(plan.works, plan.pairs))
+
+
+@functools.lru_cache(maxsize=None)
+def rows_by(works, pairs):
+    waits = closure(pairs)
     return [
-        some for some in subsets(plan.works)
+        some for some in subsets(works)
         if all((x, y) in waits or (y, x) in waits for x, y in itertools.combinations(some, 2))
     ]
 
@@ -123,10 +129,15 @@ def mates(plan):
 
 def lots(plan):
     """All LOTS."""
-    pairs = mates(plan)
+    return list(lots_by(plan.works, plan.pairs))
+
+
+@functools.lru_cache(maxsize=None)
+def lots_by(works, pairs):
+    waits = closure(pairs)
     return [
-        some for some in subsets(plan.works)
-        if not any((x, y) in pairs for x, y in itertools.combinations(some, 2))
+        some for some in subsets(works)
+        if not any((x, y) in waits or (y, x) in waits for x, y in itertools.combinations(some, 2))
     ]
 
 

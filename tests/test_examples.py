@@ -8,7 +8,10 @@ import unittest
 import lateplans
 
 FOLDER = pathlib.Path(__file__).parent / "examples"
-POINTS = ("point_04", "point_05", "point_06", "point_07", "point_08", "point_09")
+POINTS = (
+    "point_04", "point_05", "point_06", "point_07", "point_08", "point_09", "point_10", "point_11", "point_12",
+    "point_13",
+)
 
 
 def all_names():

@@ -38,11 +38,41 @@ FUNCTIONS = {
         "most_late(one, other, limits)", "least_late(one, other, limits)", "never_late(one, other, limits)",
         "is_durations_late(one, other, limits, thing)", "durations_apart(one, other, limits, number)",
     ],
+    "whenever": [
+        "always_with(plan, one, other)", "off_durations(plan, one, other)",
+        "is_off_durations(plan, one, other, thing)", "always_critical(plan)", "twins(plan)",
+        "row_past(plan, some)", "is_row_past(plan, some, thing)", "one_surely(plan, some)",
+        "fewest_guards(plan)", "is_fewest_guards(plan, thing)", "apart_rows(plan)",
+        "is_apart_rows(plan, thing)",
+    ],
+    "joins": [
+        "put_into(plan, work, inner)", "together(one, other)", "common_waits(one, other)",
+        "most_with(one, other, work)",
+    ],
+    "fewer": [
+        "fewest_left_out(one, other, number)", "fewest_put_in(one, other, number, offers)",
+        "telling_pairs(one, other)", "helping_pairs(one, other)",
+    ],
+    "hidden": ["surveyed_rows(works, asker)", "surveyed(works, asker)"],
 }
-CLASSES = {"plans": {"Plan": ["__init__(self, works, pairs=())", "of(text)", "__len__(self)"]}}
-METHODS = {"Plan": ["__len__", "__contains__", "__eq__"]}
-PROPERTIES = {"Plan": ["works", "pairs", "text"]}
-STATIC = {"Plan": ["of"]}
+CLASSES = {
+    "plans": {"Plan": ["__init__(self, works, pairs=())", "of(text)", "__len__(self)"]},
+    "hidden": {
+        "Survey": [
+            "__init__(self, works)", "tell(self, durations, time)", "back(self)", "twin(self)", "a_plan(self)",
+            "fits(self, plan)", "how_many(self)", "in_row(self, one, other)", "span(self, durations)",
+            "__len__(self)",
+        ],
+    },
+}
+METHODS = {
+    "Plan": ["__len__", "__contains__", "__eq__"],
+    "Survey": [
+        "__len__", "__eq__", "tell", "back", "twin", "a_plan", "fits", "how_many", "in_row", "span",
+    ],
+}
+PROPERTIES = {"Plan": ["works", "pairs", "text"], "Survey": ["works", "told"]}
+STATIC = {"Plan": ["of"], "Survey": []}
 
 
 class Interface(unittest.TestCase):
