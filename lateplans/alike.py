@@ -3,7 +3,7 @@
 from lateplans.bits import everyone, places
 from lateplans.factor import row_beside
 from lateplans.parted import all_ways, how_many_ways
-from lateplans.plans import Plan, need_same_works, need_works
+from lateplans.plans import Plan, later_of, mates_of, need_same_works, need_works
 
 
 def longer_at(one, other):
@@ -34,19 +34,19 @@ def never_longer(one, other):
 def alike(one, other):
     """Whether both Plans always take as long; raises OtherWorks()."""
     need_same_works(one, other)
-    return one.mates == other.mates
+    return mates_of(one) == mates_of(other)
 
 
 def how_many_alike(plan):
     """How many Plans with all their waits as PAIRS are alike to the Plan."""
-    return how_many_ways(plan.mates, everyone(plan.works))
+    return how_many_ways(mates_of(plan), everyone(plan.works))
 
 
 def all_alike(plan):
     """The Plans with all their waits as PAIRS that are alike to the Plan."""
     found = [
         sorted([(plan.works[one], plan.works[other]) for one, other in way])
-        for way in all_ways(plan.later, plan.mates, everyone(plan.works))
+        for way in all_ways(later_of(plan), mates_of(plan), everyone(plan.works))
     ]
     return [Plan(plan.works, pairs) for pairs in sorted(found)]
 
@@ -58,7 +58,7 @@ def forced(plan, one, other):
     """
     need_works(plan, (one, other))
     start = (plan.works.index(one), plan.works.index(other))
-    mates = plan.mates
+    mates = mates_of(plan)
     if mates[start[0]] >> start[1] & 1 == 0:
         return ()
     found = {start: True}

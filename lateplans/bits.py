@@ -60,6 +60,12 @@ def later_bits(works, pairs):
     return tuple(found)
 
 
+def ways_between(works, pairs):
+    """What later_bits tells, and for each work the bits of those in a row with it."""
+    later = later_bits(works, pairs)
+    return (later, both_ways(later))
+
+
 def later_with(later, one, other):
     """What later_bits tells if the place other waits for one, too; None if that closes a round."""
     if one == other or later[other] >> one & 1:

@@ -1,7 +1,7 @@
 """By how much one Plan can be later than another one, with a least and a greatest duration of each work."""
 
 from lateplans.bits import everyone, great_sets, places
-from lateplans.plans import need_as_many, need_same_works
+from lateplans.plans import mates_of, need_as_many, need_same_works
 from lateplans.times import is_durations
 
 
@@ -97,7 +97,7 @@ def _need_all(one, other, limits):
 
 def _rows_of(plan):
     """The places of the works of each great ROW."""
-    return [places(bits) for bits in great_sets(plan.mates, everyone(plan.works))]
+    return [places(bits) for bits in great_sets(mates_of(plan), everyone(plan.works))]
 
 
 def _late(rows, more, durations):

@@ -4,7 +4,7 @@ from math import gcd
 
 from lateplans.bits import bits_of, everyone, greatest_set, how_many, names_in, without
 from lateplans.names import is_set_of
-from lateplans.plans import all_in_row, all_side_by_side, need_as_many, need_same_works
+from lateplans.plans import all_in_row, all_side_by_side, mates_of, need_as_many, need_same_works
 from lateplans.rows import great_rows, is_parting_in_rows, rows_over
 from lateplans.times import is_durations, time_of
 
@@ -27,7 +27,7 @@ def _row_and_side(one, other):
 
 def row_beside(one, other):
     """For each work the bits of those that are in a row with it in one and side by side in other."""
-    return without(one.mates, other.mates)
+    return without(mates_of(one), mates_of(other))
 
 
 def lot_against(one, other, number):

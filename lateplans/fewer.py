@@ -4,7 +4,7 @@ from lateplans.bits import (
     both_ways, everyone, go_together, great_sets, has_set, how_many, later_bits, later_with, without,
 )
 from lateplans.factor import row_beside
-from lateplans.plans import need_same_works, need_works, needless_pairs
+from lateplans.plans import later_of, mates_of, need_same_works, need_works, needless_pairs
 
 
 def fewest_left_out(one, other, number):
@@ -13,10 +13,11 @@ def fewest_left_out(one, other, number):
     Raises OtherWorks().
     """
     need_same_works(one, other)
+    mates = mates_of(other)
     # Without any PAIRS the factor is the least of all.
-    if _is_above(number, both_ways(later_bits(one.works, ())), other.mates):
+    if _is_above(number, _mates_without(one, one.pairs), mates):
         return None
-    return _least_set(one.pairs, lambda some: not _is_above(number, _mates_without(one, some), other.mates))
+    return _least_set(one.pairs, lambda some: not _is_above(number, _mates_without(one, some), mates))
 
 
 def fewest_put_in(one, other, number, offers):
@@ -57,12 +58,12 @@ def _mates_without(plan, some):
 def _is_enough(one, other, number, some):
     """Whether these pairs can be put into other, and make the factor at most this number."""
     later = _later_with_all(other, some)
-    return later is not None and not _is_above(number, one.mates, both_ways(later))
+    return later is not None and not _is_above(number, mates_of(one), both_ways(later))
 
 
 def _later_with_all(plan, some):
     """For each work the bits of those that wait for it with these pairs, too; None if they close a round."""
-    later = plan.later
+    later = later_of(plan)
     for one, other in some:
         later = later_with(later, plan.works.index(one), plan.works.index(other))
         if later is None:
@@ -94,10 +95,10 @@ def helping_pairs(one, other):
 
 def _helps(plan, one, other, sets):
     """Whether the place other can wait for one in the Plan, and then none of the sets is a LOT."""
-    if one == other or plan.later[other] >> one & 1:
+    if one == other or later_of(plan)[other] >> one & 1:
         return False
-    ahead = plan.mates[one] & ~plan.later[one] | 1 << one
-    behind = plan.later[other] | 1 << other
+    ahead = mates_of(plan)[one] & ~later_of(plan)[one] | 1 << one
+    behind = later_of(plan)[other] | 1 << other
     return all([bits & ahead != 0 and bits & behind != 0 for bits in sets])
 
 

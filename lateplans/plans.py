@@ -1,9 +1,9 @@
 """Plans: works that wait for one another."""
 
-from lateplans.bits import bits_of, both_ways, go_together, later_bits, others
+from lateplans.bits import bits_of, go_together, others, pairs_in, places, ways_between
 from lateplans.errors import BadPair, BadText, Known, NoWork, OtherWorks
 from lateplans.names import ascends, is_name
-from lateplans.waits import first_wrong, waiting
+from lateplans.waits import first_wrong
 
 
 class Plan:
@@ -16,6 +16,8 @@ class Plan:
         if place is not None:
             raise BadPair(place)
         self._pairs = tuple(sorted(set(rows)))
+        # Found out when it is first asked for, and kept: a Plan does not change.
+        self._ways = None
 
     @staticmethod
     def of(text):
@@ -51,14 +53,11 @@ class Plan:
         return "; ".join([head] + [f"{one} {other}" for one, other in self._pairs])
 
     @property
-    def later(self):
-        """For each work the bits of those that wait for it, through others, too."""
-        return later_bits(self._works, self._pairs)
-
-    @property
-    def mates(self):
-        """For each work the bits of those in a row with it."""
-        return both_ways(self.later)
+    def ways(self):
+        """For each work the bits of those that wait for it; and for each the bits of those in a row with it."""
+        if self._ways is None:
+            self._ways = ways_between(self._works, self._pairs)
+        return self._ways
 
     def __len__(self):
         return len(self._works)
@@ -97,44 +96,55 @@ def need_as_many(plan, numbers):
         raise OtherWorks()
 
 
+def later_of(plan):
+    """For each work the bits of those that wait for it, through others, too."""
+    return plan.ways[0]
+
+
+def mates_of(plan):
+    """For each work the bits of those in a row with it."""
+    return plan.ways[1]
+
+
 def all_waits(plan):
     """All pairs (one, other) of works such that other waits for one."""
-    later = waiting(plan.works, plan.pairs)
-    return tuple([(one, other) for one in plan.works for other in later[one]])
+    return pairs_in(plan.works, later_of(plan))
 
 
 def waits_for(plan, one, other):
     """Whether one waits for other, through others, too."""
     need_works(plan, (one, other))
-    return (other, one) in all_waits(plan)
+    return later_of(plan)[plan.works.index(other)] >> plan.works.index(one) & 1 == 1
 
 
 def in_row(plan, one, other):
     """Whether one of both works waits for the other one."""
-    return waits_for(plan, one, other) or waits_for(plan, other, one)
+    need_works(plan, (one, other))
+    return mates_of(plan)[plan.works.index(one)] >> plan.works.index(other) & 1 == 1
 
 
 def row_pairs(plan):
     """All pairs of works in a row, the lesser work of each one first."""
-    return tuple(sorted([(min(pair), max(pair)) for pair in all_waits(plan)]))
+    return tuple([(one, other) for one, other in pairs_in(plan.works, mates_of(plan)) if one < other])
 
 
 def all_in_row(plan, some):
     """Whether each two of these works are in a row."""
-    return go_together(plan.mates, bits_of(plan.works, some))
+    return go_together(mates_of(plan), bits_of(plan.works, some))
 
 
 def all_side_by_side(plan, some):
     """Whether each two of these works are side by side."""
-    return go_together(others(plan.mates), bits_of(plan.works, some))
+    return go_together(others(mates_of(plan)), bits_of(plan.works, some))
 
 
 def needless_pairs(plan):
     """Those PAIRS that all others make wait as well."""
-    later = waiting(plan.works, plan.pairs)
+    later = later_of(plan)
+    at = {name: place for place, name in enumerate(plan.works)}
     return tuple([
         (one, other) for one, other in plan.pairs
-        if any([other in later[between] for between in later[one]])
+        if any([later[between] >> at[other] & 1 for between in places(later[at[one]])])
     ])
 
 

@@ -2,7 +2,7 @@
 
 from lateplans.bits import bits_of, everyone, great_sets, greatest_set, how_many, names_in, others, places
 from lateplans.names import ascends, is_set_of
-from lateplans.plans import all_in_row, all_side_by_side, need_works
+from lateplans.plans import all_in_row, all_side_by_side, later_of, mates_of, need_works
 
 
 def is_row(plan, some):
@@ -19,12 +19,12 @@ def is_lot(plan, some):
 
 def great_rows(plan):
     """The ROWS that lie in no other one."""
-    return _great(plan, plan.mates)
+    return _great(plan, mates_of(plan))
 
 
 def great_lots(plan):
     """The LOTS that lie in no other one."""
-    return _great(plan, others(plan.mates))
+    return _great(plan, others(mates_of(plan)))
 
 
 def _great(plan, mates):
@@ -34,17 +34,17 @@ def _great(plan, mates):
 
 def longest(plan):
     """The most works of a ROW."""
-    return len(_layers(plan.later, everyone(plan.works)))
+    return len(_layers(later_of(plan), everyone(plan.works)))
 
 
 def width(plan):
     """The most works of a LOT."""
-    return how_many(greatest_set(others(plan.mates), everyone(plan.works)))
+    return how_many(greatest_set(others(mates_of(plan)), everyone(plan.works)))
 
 
 def heights(plan):
     """For each work the most works of a ROW in which it waits for all others."""
-    layers = _layers(plan.later, everyone(plan.works))
+    layers = _layers(later_of(plan), everyone(plan.works))
     return tuple([
         height for place, _ in enumerate(plan.works)
         for height, bits in enumerate(layers, start=1) if bits >> place & 1
@@ -66,7 +66,7 @@ def _layers(later, inside):
 def lots_over(plan, some):
     """A parting of some works into as few LOTS as can be; raises NoWork(name)."""
     need_works(plan, some)
-    layers = _layers(plan.later, bits_of(plan.works, some))
+    layers = _layers(later_of(plan), bits_of(plan.works, some))
     return tuple(sorted([names_in(plan.works, bits) for bits in layers]))
 
 
@@ -76,7 +76,7 @@ def rows_over(plan, some):
     inside = bits_of(plan.works, some)
     ahead = {}
     for place in places(inside):
-        _put_ahead(plan.later, inside, place, ahead, [])
+        _put_ahead(later_of(plan), inside, place, ahead, [])
     follows = {one: other for other, one in ahead.items()}
     rows = []
     for place in places(inside):

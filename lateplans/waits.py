@@ -19,21 +19,6 @@ def order_of(works, pairs):
     return order
 
 
-def waiting(works, pairs):
-    """For each work the ascending list of those that wait for it, through others, too."""
-    nexts = _nexts(works, pairs)
-    found = {}
-    for name in order_of(works, pairs)[::-1]:
-        # The order is gone through from its end, so those of all that follow are found.
-        later = {}
-        for other in nexts[name]:
-            later[other] = True
-            for further in found[other]:
-                later[further] = True
-        found[name] = sorted(later)
-    return found
-
-
 def first_wrong(works, pairs):
     """The place of the first pair that cannot stand in a Plan of these works; None if all can."""
     strange = _first_strange(works, pairs)

@@ -1,9 +1,9 @@
 """Which works decide the time whenever others do, and of which works one surely does."""
 
-from lateplans.bits import bits_of, everyone, great_sets, names_in, places
+from lateplans.bits import everyone, great_sets, names_in, places
 from lateplans.factor import durations_of
 from lateplans.names import ascends, is_set_of
-from lateplans.plans import need_works
+from lateplans.plans import mates_of, need_works
 from lateplans.rows import great_rows
 from lateplans.times import critical, is_durations
 
@@ -24,7 +24,7 @@ def off_durations(plan, one, other):
 
 def _circles(plan):
     """For each work the bits of itself and of all in a row with it."""
-    return [bits | 1 << place for place, bits in enumerate(plan.mates)]
+    return [bits | 1 << place for place, bits in enumerate(mates_of(plan))]
 
 
 def is_off_durations(plan, one, other, thing):
@@ -91,7 +91,7 @@ def bits_of_guards(plan):
 
 def _great_bits(plan):
     """The bits of each great ROW, without ()."""
-    return [bits for bits in great_sets(plan.mates, everyone(plan.works)) if bits != 0]
+    return [bits for bits in great_sets(mates_of(plan), everyone(plan.works)) if bits != 0]
 
 
 def _meeting(rows, chosen, more):

@@ -3,7 +3,9 @@
 import itertools
 import random
 import unittest
+from unittest import mock
 
+from lateplans import bits
 from lateplans.errors import BadPair, Known, NoWork
 from lateplans.plans import (
     Plan, all_waits, behind, beside, in_row, needless_pairs, only, plain_plan, row_pairs, turned, waits_for,
@@ -43,6 +45,66 @@ class Waits(Case):
             rows = tuple(sorted({tuple(sorted(pair)) for pair in closure(plan.pairs)}))
             self.same(row_pairs(plan), rows)
             self.same(row_pairs(turned(plan)), rows)
+
+
+class ManyQuestions(Case):
+    def test_all_pairs_of_many_plans_of_ten_works(self):
+        plans = some_plans(300, sizes=(10,), seed=71)
+        self.assertGreater(len({plan.text for plan in plans}), 290)
+        for plan in plans:
+            pairs = list(itertools.product(plan.works, repeat=2))
+            waits = tuple(sorted((y, x) for x, y in pairs if waits_for(plan, x, y)))
+            rows = tuple((x, y) for x, y in pairs if x < y and in_row(plan=plan, one=x, other=y))
+            self.same((all_waits(plan), row_pairs(plan)), (waits, rows))
+            self.same(waits, tuple(sorted((y, x) for x, y in pairs if waits_for(other=y, one=x, plan=plan))))
+            for x, y in pairs:
+                self.same(in_row(plan, x, y), (x, y) in rows or (y, x) in rows)
+            self.assertEqual(set(waits), closure(plan.pairs))
+
+    def test_what_is_asked_first(self):
+        for plan in some_plans(3, seed=72):
+            waits = closure(plan.pairs)
+            for calls in itertools.permutations((waits_for, in_row, all_waits, row_pairs, needless_pairs, plain_plan)):
+                again = Plan(plan.works, plan.pairs)
+                for call in calls[:3]:
+                    rest = (plan.works[0], plan.works[-1]) if call in (waits_for, in_row) else ()
+                    self.asked(call, again, *rest)
+                self.same(waits_for(again, "b", "a"), ("a", "b") in waits)
+                self.same(all_waits(again), tuple(sorted(waits)))
+
+    def test_found_out_once_for_each_plan(self):
+        for plan in some_plans(2, seed=73):
+            with mock.patch("lateplans.plans.ways_between", side_effect=bits.ways_between) as counted:
+                for one, other in itertools.product(plan.works, repeat=2):
+                    waits_for(plan, one, other)
+                    in_row(plan, one, other)
+                all_waits(plan)
+                row_pairs(plan)
+                needless_pairs(plan)
+                self.assertEqual(counted.call_count, 1)
+
+    def test_plans_made_of_a_plan_that_was_asked(self):
+        plan = Plan.of("a b c; a b")
+        self.same((in_row(plan, "a", "c"), waits_for(plan, "c", "b")), (False, False))
+        more = with_pair(plan, "b", "c")
+        self.same((in_row(more, "a", "c"), waits_for(more, "c", "b"), in_row(plan, "a", "c")), (True, True, False))
+        less = without_pair(more, "a", "b")
+        self.same((in_row(less, "a", "c"), waits_for(less, "c", "b"), in_row(more, "a", "c")), (False, True, True))
+        self.same((waits_for(turned(more), "a", "c"), waits_for(more, "a", "c")), (True, False))
+        self.same(in_row(only(more, ("a", "c")), "a", "c"), True)
+
+    def test_an_error_changes_no_answer(self):
+        plan = Plan.of("a b c; a b; b c")
+        for call in (waits_for, in_row):
+            self.denied(NoWork, {"name": "z"}, call, plan, "a", "z")
+            self.same((call(plan, "c", "a"), call(plan, "c", "c")), (True, False))
+            self.denied(NoWork, {"name": "y"}, call, plan, "y", "z")
+
+    def test_equal_whatever_was_asked(self):
+        one, other = Plan.of("a b c; a b; b c"), Plan.of("a b c; a b; b c")
+        in_row(one, "a", "c")
+        self.assertTrue(one == other and not one != other)
+        self.same((one.text, one.pairs, one.works), (other.text, other.pairs, other.works))
 
 
 class Needless(Case):
