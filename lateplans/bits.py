@@ -76,12 +76,29 @@ def later_with(later, one, other):
     ])
 
 
+def turned_bits(later):
+    """For each place those that it goes with."""
+    return tuple([
+        sum([1 << other for other, more in enumerate(later) if more >> place & 1])
+        for place, _ in enumerate(later)
+    ])
+
+
 def both_ways(later):
     """For each place those that go with it, and those that it goes with."""
-    return tuple([
-        bits | sum([1 << other for other, more in enumerate(later) if more >> place & 1])
-        for place, bits in enumerate(later)
-    ])
+    return tuple([bits | more for bits, more in zip(later, turned_bits(later))])
+
+
+def layers_of(later, inside):
+    """The places inside in layers: each waits for one of the layer ahead of its own, and for none of its own."""
+    layers = []
+    while inside:
+        waits = 0
+        for place in places(inside):
+            waits = waits | later[place]
+        layers.append(inside & ~waits)
+        inside = inside & waits
+    return layers
 
 
 def great_sets(mates, inside):

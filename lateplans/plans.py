@@ -1,6 +1,6 @@
 """Plans: works that wait for one another."""
 
-from lateplans.bits import bits_of, go_together, others, pairs_in, places, ways_between
+from lateplans.bits import bits_of, go_together, others, pairs_in, places, turned_bits, ways_between
 from lateplans.errors import BadPair, BadText, Known, NoWork, OtherWorks
 from lateplans.names import ascends, is_name
 from lateplans.waits import first_wrong
@@ -99,6 +99,11 @@ def need_as_many(plan, numbers):
 def later_of(plan):
     """For each work the bits of those that wait for it, through others, too."""
     return plan.ways[0]
+
+
+def earlier_of(plan):
+    """For each work the bits of those that it waits for, through others, too."""
+    return turned_bits(later_of(plan))
 
 
 def mates_of(plan):

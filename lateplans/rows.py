@@ -1,6 +1,6 @@
 """ROWS and LOTS: sets of works each two of which are in a row, or side by side."""
 
-from lateplans.bits import bits_of, everyone, great_sets, greatest_set, how_many, names_in, others, places
+from lateplans.bits import bits_of, everyone, great_sets, greatest_set, how_many, layers_of, names_in, others, places
 from lateplans.names import ascends, is_set_of
 from lateplans.plans import all_in_row, all_side_by_side, later_of, mates_of, need_works
 
@@ -34,7 +34,7 @@ def _great(plan, mates):
 
 def longest(plan):
     """The most works of a ROW."""
-    return len(_layers(later_of(plan), everyone(plan.works)))
+    return len(layers_of(later_of(plan), everyone(plan.works)))
 
 
 def width(plan):
@@ -44,29 +44,17 @@ def width(plan):
 
 def heights(plan):
     """For each work the most works of a ROW in which it waits for all others."""
-    layers = _layers(later_of(plan), everyone(plan.works))
+    layers = layers_of(later_of(plan), everyone(plan.works))
     return tuple([
         height for place, _ in enumerate(plan.works)
         for height, bits in enumerate(layers, start=1) if bits >> place & 1
     ])
 
 
-def _layers(later, inside):
-    """The places inside in layers: each waits for one of the layer ahead of its own, and for none of its own."""
-    layers = []
-    while inside:
-        waits = 0
-        for place in places(inside):
-            waits = waits | later[place]
-        layers.append(inside & ~waits)
-        inside = inside & waits
-    return layers
-
-
 def lots_over(plan, some):
     """A parting of some works into as few LOTS as can be; raises NoWork(name)."""
     need_works(plan, some)
-    layers = _layers(later_of(plan), bits_of(plan.works, some))
+    layers = layers_of(later_of(plan), bits_of(plan.works, some))
     return tuple(sorted([names_in(plan.works, bits) for bits in layers]))
 
 

@@ -1,14 +1,22 @@
-"""Points [1], [3] and [11]: what holds for Plans put together, turned about, cut down, with a pair more."""
+"""Points [1], [3] and [11]: what holds for Plans put together, turned about, cut down, with a pair more.
+
+And what the points from [14] on tell beside what those ahead of them tell.
+"""
 
 import itertools
 import unittest
 
 from lateplans.alike import alike, how_many_alike, never_longer
 from lateplans.bounded import most_late
+from lateplans.changes import Watch
+from lateplans.counts import first_place, how_many_orders, is_order, nth_order
 from lateplans.errors import BadPair
 from lateplans.factor import factor
-from lateplans.plans import Plan, all_waits, behind, beside, only, plain_plan, turned, with_pair
+from lateplans.hands import begins_by, hands_needed, time_by
+from lateplans.plans import Plan, all_waits, behind, beside, only, plain_plan, turned, waits_for, with_pair
+from lateplans.ranks import Table
 from lateplans.rows import great_lots, great_rows, longest, width
+from lateplans.times import critical, most_at_once, slacks
 from tests.asserts import Case
 from tests.oracle import every_plan, goes_round, some_durations, some_plans, time_by_rows, two_plans
 
@@ -103,6 +111,65 @@ class TheSame(Case):
             whole = Plan(plan.works, all_waits(plan))
             for durations in some_durations(plan, 4):
                 self.assertEqual(time_by_rows(plan, durations), time_by_rows(whole, durations))
+
+
+class LaterPoints(Case):
+    def test_one_pair_of_hands_keeps_an_order(self):
+        for plan in every_plan(3) + some_plans(2):
+            for number in {0, how_many_orders(plan) // 2, how_many_orders(plan) - 1}:
+                order = nth_order(plan, number)
+                begun = begins_by(plan, (1,) * len(plan), 1, order)
+                self.same(begun, tuple(order.index(name) for name in plan.works))
+            # By any order whatever, works begin in one that keeps the Plan.
+            begun = begins_by(plan, (1,) * len(plan), 1, plan.works[::-1])
+            self.same(is_order(plan, tuple(name for _, name in sorted(zip(begun, plan.works)))), True)
+
+    def test_enough_hands_are_as_many_as_can_be_at_work(self):
+        for plan in some_plans(2):
+            self.same(hands_needed(plan), width(plan))
+            for durations in some_durations(plan, 4):
+                many = most_at_once(plan, durations)
+                self.assertTrue(many <= hands_needed(plan))
+                if min(durations) > 0:
+                    self.same(time_by(plan, durations, many, plan.works), time_by_rows(plan, durations))
+
+    def test_plans_put_together(self):
+        for one, _, first, _ in four_plans():
+            wide, long = beside(one, first), behind(one, first)
+            self.same(hands_needed(wide), max(1, width(one) + width(first)))
+            self.same(hands_needed(long), max(hands_needed(one), hands_needed(first)))
+            for name in first.works:
+                self.same(first_place(long, name), len(one) + first_place(first, name))
+
+    def test_a_table_beside_factors(self):
+        for one, other in LARGE:
+            table = Table((("one", one), ("other", other), ("third", turned(one))))
+            self.same(table.factor_of("one", "other"), factor(one, other))
+            self.same(table.is_never_longer("one", "other"), never_longer(one, other))
+            self.same("one" in table.above("other"), never_longer(one, other) and not never_longer(other, one))
+            self.same(any({"one", "third"} <= set(some) for some in table.ties()), True)
+            self.same(any({"one", "other"} <= set(some) for some in table.ties()), alike(one, other))
+
+    def test_a_watch_beside_slacks(self):
+        for plan in some_plans(2):
+            durations = some_durations(plan, 3)[-1]
+            for name, slack in zip(plan.works, slacks(plan, durations)):
+                watch = Watch(plan, durations)
+                lasts = durations[plan.works.index(name)]
+                self.same(watch.last(name, lasts + slack), watch.told[0])
+                self.assertIn(name, critical(plan, watch.durations))
+                self.same(watch.last(name, lasts + slack + 1), watch.told[0] + 1)
+
+    def test_a_watch_beside_with_pair(self):
+        for plan in some_plans(1):
+            durations = some_durations(plan, 3)[-1]
+            for one, other in itertools.permutations(plan.works, 2):
+                watch = Watch(plan, durations)
+                if waits_for(plan, one, other):
+                    self.refused(BadPair, {"place": len(plan.pairs)}, watch.wait, one, other)
+                else:
+                    self.assertTrue(watch.wait(one, other) >= watch.told[0])
+                    self.assertTrue(watch.plan == with_pair(plan, one, other))
 
 
 if __name__ == "__main__":

@@ -54,6 +54,17 @@ FUNCTIONS = {
         "telling_pairs(one, other)", "helping_pairs(one, other)",
     ],
     "hidden": ["surveyed_rows(works, asker)", "surveyed(works, asker)"],
+    "hands": [
+        "begins_by(plan, durations, hands, order)", "time_by(plan, durations, hands, order)",
+        "idle_by(plan, durations, hands, order)", "row_by(plan, durations, hands, order)",
+        "is_row_by(plan, durations, hands, order, thing)", "least_time_by(plan, durations, hands)",
+        "best_order(plan, durations, hands)", "hands_needed(plan)",
+    ],
+    "counts": [
+        "is_order(plan, thing)", "how_many_orders(plan)", "nth_order(plan, number)",
+        "number_of_order(plan, order)", "first_place(plan, name)", "last_place(plan, name)",
+        "how_many_at(plan, name, place)", "how_many_ahead(plan, one, other)",
+    ],
 }
 CLASSES = {
     "plans": {"Plan": ["__init__(self, works, pairs=())", "of(text)", "__len__(self)"]},
@@ -64,15 +75,38 @@ CLASSES = {
             "__len__(self)",
         ],
     },
+    "changes": {
+        "Watch": [
+            "__init__(self, plan, durations)", "last(self, name, number)", "wait(self, one, other)",
+            "free(self, one, other)", "add(self, name, number)", "drop(self, name)", "back(self)", "twin(self)",
+            "__len__(self)",
+        ],
+    },
+    "ranks": {
+        "Table": [
+            "__init__(self, rows)", "factor_of(self, name, other)", "all_factors(self)",
+            "is_never_longer(self, name, other)", "all_pairs(self)", "below(self, name)", "above(self, name)",
+            "next_below(self, name)", "next_above(self, name)", "ties(self)", "chain(self)", "apart(self)",
+            "layers(self)", "__len__(self)",
+        ],
+    },
 }
 METHODS = {
     "Plan": ["__len__", "__contains__", "__eq__"],
     "Survey": [
         "__len__", "__eq__", "tell", "back", "twin", "a_plan", "fits", "how_many", "in_row", "span",
     ],
+    "Watch": ["__len__", "__eq__", "last", "wait", "free", "add", "drop", "back", "twin"],
+    "Table": [
+        "__len__", "__contains__", "__getitem__", "__eq__", "factor_of", "all_factors", "is_never_longer", "all_pairs",
+        "below", "above", "next_below", "next_above", "ties", "chain", "apart", "layers",
+    ],
 }
-PROPERTIES = {"Plan": ["works", "pairs", "text"], "Survey": ["works", "told"]}
-STATIC = {"Plan": ["of"], "Survey": []}
+PROPERTIES = {
+    "Plan": ["works", "pairs", "text"], "Survey": ["works", "told"],
+    "Watch": ["plan", "durations", "time", "told"], "Table": ["names"],
+}
+STATIC = {"Plan": ["of"], "Survey": [], "Watch": [], "Table": []}
 
 
 class Interface(unittest.TestCase):

@@ -121,9 +121,29 @@ class Language(unittest.TestCase):
         for file, node in nodes(ast.Call):
             if isinstance(node.func, ast.Attribute):
                 self.assertIn(node.func.attr, METHODS | own, (file, node.lineno))
-                self.assertNotIn(node.func.attr, {"sort", "add"} - own, (file, node.lineno))
+                # Classes of the package have methods that sets have, so no set is changed by one.
+                self.assertNotIn(node.func.attr, {"sort", "add", "discard"}, (file, node.lineno))
+            elif isinstance(node.func, ast.Name) and node.func.id == "reversed":
+                self.assertRegex(ast.unparse(node.args[0]), "^(list|tuple|sorted|range)[(]", (file, node.lineno))
         for file, node in nodes(ast.Attribute):
             self.assertNotIn(node.attr, BARRED | {"format", "args"}, (file, node.lineno))
+
+    def test_classes(self):
+        for file, node in nodes(ast.ClassDef):
+            methods = [line.name for line in node.body if isinstance(line, ast.FunctionDef)]
+            self.assertEqual(len(methods), len(set(methods)), (file, node.name))
+            self.assertEqual("__getitem__" in methods, "__iter__" in methods, (file, node.name))
+            stored = {inner.attr for inner in ast.walk(node)
+                      if isinstance(inner, ast.Attribute) and isinstance(inner.ctx, ast.Store)}
+            self.assertEqual(stored & set(methods), set(), (file, node.name))
+            self.assertNotIn("keys", methods)
+
+    def test_operators_and_properties_change_nothing(self):
+        for file, node in nodes(ast.FunctionDef):
+            kept = any(isinstance(line, ast.If) and ast.unparse(line.test).endswith(" is None") for line in node.body)
+            if (node.name.startswith("__") and node.name != "__init__") or node.decorator_list and not kept:
+                for inner in ast.walk(node):
+                    self.assertFalse(isinstance(inner, ast.Attribute) and isinstance(inner.ctx, ast.Store), node.name)
 
     def test_module_level(self):
         for file in FILES:
