@@ -26,3 +26,10 @@ def tupled(thing):
     if isinstance(thing, (list, tuple)):
         return tuple([tupled(item) for item in thing])
     return thing
+
+
+def is_written(word):
+    """Whether this string is a number from 0, in decimal digits without a needless 0 in front."""
+    if word == "" or not all(["0" <= sign <= "9" for sign in word]):
+        return False
+    return word == "0" or word[0] != "0"

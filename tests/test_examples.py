@@ -10,7 +10,8 @@ import lateplans
 FOLDER = pathlib.Path(__file__).parent / "examples"
 POINTS = (
     "point_04", "point_05", "point_06", "point_07", "point_08", "point_09", "point_10", "point_11", "point_12",
-    "point_13", "point_14", "point_15", "point_16", "point_17",
+    "point_13", "point_14", "point_15", "point_16", "point_17", "point_18", "point_19",
+    "point_20", "point_21",
 )
 
 

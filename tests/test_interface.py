@@ -65,6 +65,17 @@ FUNCTIONS = {
         "number_of_order(plan, order)", "first_place(plan, name)", "last_place(plan, name)",
         "how_many_at(plan, name, place)", "how_many_ahead(plan, one, other)",
     ],
+    "sums": [
+        "added(one, other)", "lost(plan, several)", "common_row(plan, several)",
+        "is_common_row(plan, several, thing)", "first_critical(plan, durations, name)",
+        "cut_price(plan, durations, prices)", "cheapest_cut(plan, durations, prices)",
+        "is_cheapest_cut(plan, durations, prices, thing)",
+    ],
+    "texts": [
+        "works_text(works)", "pairs_text(pairs)", "durations_text(durations)", "works_from(text)",
+        "pairs_from(text)", "durations_from(text)", "lines_of(plan, durations)",
+    ],
+    "desk": ["answers(text)"],
 }
 CLASSES = {
     "plans": {"Plan": ["__init__(self, works, pairs=())", "of(text)", "__len__(self)"]},
@@ -90,6 +101,14 @@ CLASSES = {
             "layers(self)", "__len__(self)",
         ],
     },
+    "board": {
+        "Board": [
+            "__init__(self)", "put(self, name, plan)", "drop(self, name)", "rename(self, name, new)",
+            "wait(self, name, one, other)", "free(self, name, one, other)", "undo(self)", "twin(self)",
+            "time_of(self, name, durations)", "never_longer(self, name, to)", "factor(self, name, to)",
+            "never_beaten(self)", "__len__(self)",
+        ],
+    },
 }
 METHODS = {
     "Plan": ["__len__", "__contains__", "__eq__"],
@@ -101,12 +120,17 @@ METHODS = {
         "__len__", "__contains__", "__getitem__", "__eq__", "factor_of", "all_factors", "is_never_longer", "all_pairs",
         "below", "above", "next_below", "next_above", "ties", "chain", "apart", "layers",
     ],
+    "Board": [
+        "__len__", "__contains__", "__getitem__", "__eq__", "put", "drop", "rename", "wait", "free", "undo", "twin",
+        "time_of", "never_longer", "factor", "never_beaten",
+    ],
 }
 PROPERTIES = {
     "Plan": ["works", "pairs", "text"], "Survey": ["works", "told"],
     "Watch": ["plan", "durations", "time", "told"], "Table": ["names"],
+    "Board": ["names", "deeds"],
 }
-STATIC = {"Plan": ["of"], "Survey": [], "Watch": [], "Table": []}
+STATIC = {"Plan": ["of"]}
 
 
 class Interface(unittest.TestCase):
@@ -132,7 +156,7 @@ class Interface(unittest.TestCase):
                     self.assertEqual(name + str(inspect.signature(getattr(kind, name))), line)
                 for name in METHODS[word]:
                     self.assertTrue(inspect.isfunction(vars(kind)[name]), name)
-                for name in STATIC[word]:
+                for name in STATIC.get(word, []):
                     self.assertIsInstance(vars(kind)[name], staticmethod)
                 for name in PROPERTIES[word]:
                     self.assertIsInstance(vars(kind)[name], property)
