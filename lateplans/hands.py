@@ -107,12 +107,18 @@ def _best(plan, durations, hands):
     # How long it takes at the least from when a work begins.
     tails = ends(turned(plan), durations)
     best = None
+    seen = {}
     # An order in which works have begun, the moment, and who is done and at work then.
     left = [((), 0, 0, [])]
     while left:
         order, moment, done, busy = left.pop()
         if best is not None and best[0] <= _least_end(durations, tails, hands, order, moment, busy):
             continue
+        # How it goes on does not depend on how it came so far.
+        state = (moment, done, tuple(sorted(busy)))
+        if state in seen:
+            continue
+        seen[state] = True
         if len(order) == len(durations):
             best = (max([stop for stop, _ in busy], default=moment), order)
             continue
